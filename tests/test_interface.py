@@ -21,6 +21,13 @@ INTERFACE = {
         "plain": ["train"], "joined": ["one", "other"],
         "idled": ["train", "stage", "place", "teeth"],
     },
+    "marks.py": {"meeting": ["train"]},
+    "shops.py": {"all_ratios": ["shop", "pairs"]},
+    "searching.py": {
+        "reached": ["shop", "wished", "pairs"], "nearest": ["shop", "wished", "pairs"],
+        "shown": ["shop", "wished", "pairs"],
+    },
+    "texts.py": {"written": ["train"], "read": ["text"]},
 }
 
 

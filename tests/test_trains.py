@@ -4,41 +4,9 @@ import copy
 import unittest
 from fractions import Fraction
 
+from samples import GOOD, STAGES, WRONG_TRAINS, WRONG_WHEELS, turns_by_fractions
 from wheeltrain.errors import BadPlace, BadTrain, BadWheel, TooLong
 from wheeltrain.trains import about, idled, joined, need_train, plain, ratio, turns
-
-STAGES = [
-    (2, 2), (2, 60), (60, 2), (12, 30), (45, 9), (59, 53),
-    (12, 30, 8), (60, 2, 60), (7, 7, 7),
-    (10, 20, 30, 40), (2, 3, 5, 7),
-    (2, 60, 2, 60, 2), (11, 13, 17, 19, 23),
-]
-
-GOOD = (
-    [[one] for one in STAGES]
-    + [[one, other] for one in STAGES for other in STAGES]
-    + [[one, other, third] for one in STAGES[::2] for other in STAGES[::3] for third in STAGES[1::2]]
-)
-
-WRONG_WHEELS = [1, 61, 0, -2, 100, 10 ** 30, True, False, "12", "", None, [12], (12,), {}]
-
-WRONG_STAGES = (
-    [(), (12,), (2, 3, 4, 5, 6, 7), (12, 30) * 4, [12, 30], [12, 30, 8], None, "12:30", "ab", 12, True,
-     {12: 30, 30: 12}, {12, 30}, b"ab"]
-    + [(wheel, 12) for wheel in WRONG_WHEELS]
-    + [(12, wheel) for wheel in WRONG_WHEELS]
-    + [(12, wheel, 30) for wheel in WRONG_WHEELS]
-    + [(12, 30, 8, 9, wheel) for wheel in WRONG_WHEELS]
-)
-
-WRONG_TRAINS = (
-    [[], [(12, 30)] * 4, [(12, 30)] * 5, ((12, 30),), ((12, 30), (9, 45)), (12, 30), (), None, 0, 12,
-     "12:30", "", b"ab", {}, {0: (12, 30)}, True, False, [12, 30], {(12, 30)}]
-    + [[stage] for stage in WRONG_STAGES]
-    + [[stage, (12, 30)] for stage in WRONG_STAGES]
-    + [[(12, 30), stage] for stage in WRONG_STAGES]
-    + [[(12, 30), (9, 45), stage] for stage in WRONG_STAGES]
-)
 
 # Each function that takes a train, with everything else that it is handed good.
 TAKERS = {
@@ -51,17 +19,6 @@ TAKERS = {
     "joined, second": lambda train: joined([(12, 30)], train),
     "idled": lambda train: idled(train, 0, 1, 20),
 }
-
-
-def turns_by_fractions(train):
-    """The turns of [4], each reckoned anew from the first wheel of its stage."""
-    found = []
-    axle = Fraction(1)
-    for stage in train:
-        row = [axle * Fraction(stage[0], wheel) * (-1) ** at for at, wheel in enumerate(stage)]
-        found.append([(turn.numerator, turn.denominator) for turn in row])
-        axle = row[-1]
-    return found
 
 
 def other_way(told):
